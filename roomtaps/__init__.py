@@ -1,0 +1,1 @@
+"""A room's acoustics: the taps by which a room answers a sound."""
