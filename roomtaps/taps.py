@@ -2,7 +2,7 @@
 
 from roomtaps.asks import Ask, ask_answer
 from roomtaps.delays import delay_answer
-from roomtaps.lines import Line, begin_answer, set_answer
+from roomtaps.lines import Line, at_answer, begin_answer, get_answer, past_answer, quiet_answer, run_answer, set_answer
 from roomtaps.tapsets import taps_refusal
 
 
@@ -49,10 +49,25 @@ def call_answer(line, reader):
         return read_ask(reader)
     if number == 3:
         return judge_answer(reader.take_row())
+    return line_answer(line, number, reader)
+
+
+# The calls that the line itself answers.
+def line_answer(line, number, reader):
     if number == 4:
         return begin_answer(line)
     if number == 5:
         return set_answer(line, reader.take_row())
+    if number == 6:
+        return get_answer(line)
+    if number == 7:
+        return run_answer(line, reader.take_row())
+    if number == 8:
+        return past_answer(line, reader.take_one())
+    if number == 9:
+        return at_answer(line)
+    if number == 10:
+        return quiet_answer(line)
     raise UnknownCall(number)
 
 

@@ -14,6 +14,10 @@ LOW = -2 ** 63
 TOP_GAIN = 2 ** 40
 FULL_BOOK = [32768] * 36
 BOX = [(0, 0), (10, 0), (10, 10), (0, 10)]
+TOP_SAMPLE = 2 ** 31 - 1
+LOW_SAMPLE = -2 ** 31
+FULL_GAIN = 2 ** 24
+BEGIN, GET, AT, QUIET = [4], [6], [9], [10]
 
 
 def row(numbers):
@@ -34,6 +38,14 @@ def judge_call(taps):
 
 def set_call(taps):
     return [5] + row(taps)
+
+
+def run_call(samples):
+    return [7] + row(samples)
+
+
+def past_call(back):
+    return [8, back]
 
 
 def room_row(corners, height=10, stuff=0, floor=0, ceiling=0, stuffs=None):
@@ -60,6 +72,19 @@ def split(given):
         found.append(given[place + 1:place + 1 + given[place]])
         place += 1 + given[place]
     return found
+
+
+def joined(calls):
+    return [number for call in calls for number in call]
+
+
+def on_one_line(*calls):
+    """The answers of these calls, one behind another on one line."""
+    return split(answers(joined(calls)))
+
+
+def last_on_one_line(*calls):
+    return on_one_line(*calls)[-1]
 
 
 def nearest_root(square):
@@ -288,3 +313,48 @@ def slow_line_fault(corners):
     if sum(cross(a, b) for a, b in lines) < 0:
         return [7, 0]
     return None
+
+
+class SlowLine:
+    """A line by the words of 'Taps' and 'The calls': x is a dict by time, y is asked time by time."""
+
+    def __init__(self):
+        self.pairs = {}
+        self.x = {}
+
+    def y(self, time):
+        """The whole number nearest to the sum, of two as near the greater, not held yet."""
+        total = sum((Fraction(gain * self.x.get(time - delay, 0), FULL_GAIN) for delay, gain in self.pairs.items()),
+                    Fraction(0))
+        near = [total.numerator // total.denominator + off for off in (-1, 0, 1, 2)]
+        return min(near, key=lambda number: (abs(number - total), -number))
+
+    def set(self, taps):
+        """For taps that are taps."""
+        self.pairs = dict(zip(taps[::2], taps[1::2]))
+        return [0]
+
+    def get(self):
+        return [0] + [number for pair in sorted(self.pairs.items()) for number in pair]
+
+    def run(self, samples):
+        if any(sample < LOW_SAMPLE or sample > TOP_SAMPLE for sample in samples):
+            return [-1]
+        held, out = 0, []
+        for sample in samples:
+            self.x[len(self.x)] = sample
+            number = self.y(len(self.x) - 1)
+            out.append(sorted((LOW_SAMPLE, number, TOP_SAMPLE))[1])
+            held += out[-1] != number
+        return [0, held] + out
+
+    def past(self, back):
+        return [-1] if back > 262143 else [0, self.x.get(len(self.x) - 1 - back, 0)]
+
+    def at(self):
+        return [len(self.x)]
+
+    def quiet(self):
+        """Asks each time until the latest tap has let the last sample go."""
+        ahead = range(len(self.x), len(self.x) + max(self.pairs, default=0))
+        return [int(all(self.y(time) == 0 for time in ahead))]
